@@ -84,6 +84,15 @@ func allWithin(list []int64, limit int64) bool {
 	return true
 }
 
+// total returns the sum of a list.
+func total(list []int64) int64 {
+	sum := int64(0)
+	for _, n := range list {
+		sum += n
+	}
+	return sum
+}
+
 // IsName reports whether s is a name.
 func IsName(s string) bool {
 	if len(s) < 1 || len(s) > MaxName {
@@ -223,11 +232,7 @@ func SumOf(v Values) (int64, bool) {
 	if !ValidValues(v) {
 		return 0, false
 	}
-	sum := int64(0)
-	for _, num := range v.Nums {
-		sum += num
-	}
-	return sum, true
+	return total(v.Nums), true
 }
 
 // ListText returns the text of a list.

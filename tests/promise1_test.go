@@ -148,3 +148,87 @@ func TestNilAndEmptyListsAreTheSame(t *testing.T) {
 		expect(t, "empty and empty", results(empty, []int64{}), want)
 	}
 }
+
+// anyNumbers are numbers of methods, seats, parties and goals, valid ones and others.
+func anyNumbers() []int64 {
+	return []int64{math.MinInt64, -1, 0, 1, 2, 3, 4, 11, 12, 13, 50, 99, 100, 101, math.MaxInt64}
+}
+
+// anyVotes are votes of all kinds, and lists that are none.
+func anyVotes() [][]int64 {
+	return append(append(votesOfAllKinds(), invalidVotes()...), anyLists()...)
+}
+
+func TestSeatsOfOneListReturnRepeatAndChangeNothing(t *testing.T) {
+	for _, list := range anyVotes() {
+		votes, isSame := guarded(list)
+		twice(t, "votes", func() string { return shown(impl.ValidVotes(votes)) + three(impl.FirstLoss(votes)) })
+		for _, n := range anyNumbers() {
+			twice(t, "quotas", func() string { return three(impl.QuotasOf(votes, n)) + both(impl.RemainderSeats(votes, n)) })
+			for _, method := range anyNumbers() {
+				twice(t, "methods", func() string {
+					return both(impl.SeatsBy(method, votes, n)) + tie(impl.TiedSeats(method, votes, n))
+				})
+			}
+		}
+		if !isSame() {
+			t.Errorf("a function of votes changes %v", list)
+		}
+	}
+}
+
+func TestFewestForReturnsRepeatsAndChangesNothing(t *testing.T) {
+	for _, list := range [][]int64{nil, {}, {0}, {7}, {0, 5}, {6, 6, 2}, {-1, 5}, {5, math.MaxInt64}, repeated(impl.MaxVotes, 12), repeated(1, 13), repeated(0, 12)} {
+		votes, isSame := guarded(list)
+		for _, method := range anyNumbers() {
+			for _, party := range anyNumbers() {
+				for _, goal := range []int64{math.MinInt64, -1, 0, 1, 50, 100, 101, math.MaxInt64} {
+					twice(t, "FewestFor", func() string { return both(impl.FewestFor(method, votes, party, goal)) })
+				}
+			}
+		}
+		if !isSame() {
+			t.Errorf("FewestFor changes %v", list)
+		}
+	}
+}
+
+func TestSeatsOfTwoListsReturnRepeatAndChangeNothing(t *testing.T) {
+	for _, first := range anyVotes() {
+		for _, second := range append(wrongSeats(), anyVotes()...) {
+			votes, isSameVotes := guarded(first)
+			list, isSameList := guarded(second)
+			twice(t, "OutsideQuotas", func() string { return both(impl.OutsideQuotas(votes, list)) })
+			for _, method := range []int64{-1, 0, 1, 2, 3, 4} {
+				twice(t, "IsSeatsBy", func() string { return shown(impl.IsSeatsBy(method, votes, list)) })
+			}
+			if !isSameVotes() || !isSameList() {
+				t.Errorf("a function of votes and a list changes %v or %v", first, second)
+			}
+		}
+	}
+}
+
+func TestSeatsReturnNewLists(t *testing.T) {
+	votes := []int64{6, 6, 2}
+	list := []int64{5, 2, 0}
+	for name, f := range map[string]func() ([]int64, []int64, bool){
+		"SeatsBy":        func() ([]int64, []int64, bool) { r, ok := impl.SeatsBy(hill, votes, 10); return r, nil, ok },
+		"SeatsBy of 0":   func() ([]int64, []int64, bool) { r, ok := impl.SeatsBy(adams, votes, 0); return r, nil, ok },
+		"TiedSeats":      func() ([]int64, []int64, bool) { r, _, ok := impl.TiedSeats(webster, votes, 2); return r, nil, ok },
+		"QuotasOf":       func() ([]int64, []int64, bool) { return impl.QuotasOf(votes, 7) },
+		"QuotasOf of 10": func() ([]int64, []int64, bool) { return impl.QuotasOf(votes, 10) },
+		"RemainderSeats": func() ([]int64, []int64, bool) { r, ok := impl.RemainderSeats(votes, 10); return r, nil, ok },
+		"OutsideQuotas":  func() ([]int64, []int64, bool) { r, ok := impl.OutsideQuotas(votes, list); return r, nil, ok },
+	} {
+		first, other, ok := f()
+		second, third, _ := f()
+		kept, keptOther := shown(second, third, ok), shown(other)
+		overwritten(first)
+		expect(t, name+" after its first result is overwritten", shown(second, third, ok), kept)
+		expect(t, name+" and its other list", shown(other), keptOther)
+		overwritten(other)
+		expect(t, name+" once more", three(f()), kept)
+		expect(t, name+" and its arguments", shown(votes, list), "[6 6 2] [5 2 0]")
+	}
+}
