@@ -2,6 +2,7 @@ package tests
 
 import (
 	"math"
+	"runtime"
 	"slices"
 	"strings"
 	"testing"
@@ -209,18 +210,11 @@ func TestSeatsOfTwoListsReturnRepeatAndChangeNothing(t *testing.T) {
 	}
 }
 
-func TestSeatsReturnNewLists(t *testing.T) {
-	votes := []int64{6, 6, 2}
-	list := []int64{5, 2, 0}
-	for name, f := range map[string]func() ([]int64, []int64, bool){
-		"SeatsBy":        func() ([]int64, []int64, bool) { r, ok := impl.SeatsBy(hill, votes, 10); return r, nil, ok },
-		"SeatsBy of 0":   func() ([]int64, []int64, bool) { r, ok := impl.SeatsBy(adams, votes, 0); return r, nil, ok },
-		"TiedSeats":      func() ([]int64, []int64, bool) { r, _, ok := impl.TiedSeats(webster, votes, 2); return r, nil, ok },
-		"QuotasOf":       func() ([]int64, []int64, bool) { return impl.QuotasOf(votes, 7) },
-		"QuotasOf of 10": func() ([]int64, []int64, bool) { return impl.QuotasOf(votes, 10) },
-		"RemainderSeats": func() ([]int64, []int64, bool) { r, ok := impl.RemainderSeats(votes, 10); return r, nil, ok },
-		"OutsideQuotas":  func() ([]int64, []int64, bool) { r, ok := impl.OutsideQuotas(votes, list); return r, nil, ok },
-	} {
+// checkNewLists overwrites the lists that calls return, and checks that this changes neither other results nor the arguments.
+func checkNewLists(t *testing.T, arguments func() string, calls map[string]func() ([]int64, []int64, bool)) {
+	t.Helper()
+	given := arguments()
+	for name, f := range calls {
 		first, other, ok := f()
 		second, third, _ := f()
 		kept, keptOther := shown(second, third, ok), shown(other)
@@ -229,6 +223,117 @@ func TestSeatsReturnNewLists(t *testing.T) {
 		expect(t, name+" and its other list", shown(other), keptOther)
 		overwritten(other)
 		expect(t, name+" once more", three(f()), kept)
-		expect(t, name+" and its arguments", shown(votes, list), "[6 6 2] [5 2 0]")
+		expect(t, name+" and its arguments", arguments(), given)
+	}
+}
+
+func TestSeatsReturnNewLists(t *testing.T) {
+	votes := []int64{6, 6, 2}
+	list := []int64{5, 2, 0}
+	checkNewLists(t, func() string { return shown(votes, list) }, map[string]func() ([]int64, []int64, bool){
+		"SeatsBy":        func() ([]int64, []int64, bool) { r, ok := impl.SeatsBy(hill, votes, 10); return r, nil, ok },
+		"SeatsBy of 0":   func() ([]int64, []int64, bool) { r, ok := impl.SeatsBy(adams, votes, 0); return r, nil, ok },
+		"TiedSeats":      func() ([]int64, []int64, bool) { r, _, ok := impl.TiedSeats(webster, votes, 2); return r, nil, ok },
+		"QuotasOf":       func() ([]int64, []int64, bool) { return impl.QuotasOf(votes, 7) },
+		"QuotasOf of 10": func() ([]int64, []int64, bool) { return impl.QuotasOf(votes, 10) },
+		"RemainderSeats": func() ([]int64, []int64, bool) { r, ok := impl.RemainderSeats(votes, 10); return r, nil, ok },
+		"OutsideQuotas":  func() ([]int64, []int64, bool) { r, ok := impl.OutsideQuotas(votes, list); return r, nil, ok },
+	})
+}
+
+func TestRunningSumsReturnRepeatAndChangeNothing(t *testing.T) {
+	for _, nums := range anyLists() {
+		list, isSame := guarded(nums)
+		for _, den := range extremes() {
+			v := impl.Values{Den: den, Nums: list}
+			twice(t, "running sums", func() string {
+				return both(impl.PrefixFloors(v)) + both(impl.PrefixNearest(v)) + both(impl.CountRunning(v)) + three(impl.BestRunning(v))
+			})
+			if !isSame() || v.Den != den {
+				t.Errorf("a function of running sums changes %d and %v", den, nums)
+			}
+		}
+		for _, other := range anyLists() {
+			ints, isSameInts := guarded(other)
+			v := impl.Values{Den: 3, Nums: list}
+			twice(t, "two lists", func() string { return both(impl.RunningErrors(v, ints)) + shown(impl.IsRunning(v, ints)) })
+			if !isSame() || !isSameInts() {
+				t.Errorf("a function of two lists changes %v or %v", nums, other)
+			}
+		}
+	}
+}
+
+func TestFeedbackReturnsRepeatsAndChangesNothing(t *testing.T) {
+	for _, nums := range anyLists() {
+		list, isSame := guarded(nums)
+		for _, den := range []int64{math.MinInt64, -1, 0, 1, 2, 7, impl.MaxDen, impl.MaxDen + 1, math.MaxInt64} {
+			v := impl.Values{Den: den, Nums: list}
+			for _, r := range append(ranges(), noRanges()...) {
+				twice(t, "feedback", func() string { return three(impl.FeedbackOf(v, r[0], r[1])) + three(impl.SecondOf(v, r[0], r[1])) })
+			}
+			if !isSame() || v.Den != den {
+				t.Errorf("feedback changes %d and %v", den, nums)
+			}
+		}
+		for _, size := range extremes() {
+			twice(t, "lists", func() string { return both(impl.BlockSums(list, size)) + both(impl.GreatestOf(list)) })
+		}
+		if !isSame() {
+			t.Errorf("BlockSums or GreatestOf changes %v", nums)
+		}
+	}
+}
+
+func TestConstantWordReturnsAndRepeats(t *testing.T) {
+	for _, a := range extremes() {
+		for _, den := range extremes() {
+			for _, count := range append(extremes(), impl.MaxWord-1, impl.MaxWord, impl.MaxWord+1) {
+				twice(t, "ConstantWord", func() string { return both(impl.ConstantWord(a, den, count)) })
+			}
+		}
+	}
+}
+
+func TestRunningSumsAndFeedbackReturnNewLists(t *testing.T) {
+	v := values(4, 3, 5, -6, 8)
+	list := []int64{1, 1, -2, 2}
+	checkNewLists(t, func() string { return shown(v, list) }, map[string]func() ([]int64, []int64, bool){
+		"RunningErrors":  func() ([]int64, []int64, bool) { r, ok := impl.RunningErrors(v, list); return r, nil, ok },
+		"PrefixFloors":   func() ([]int64, []int64, bool) { r, ok := impl.PrefixFloors(v); return r, nil, ok },
+		"PrefixNearest":  func() ([]int64, []int64, bool) { r, ok := impl.PrefixNearest(v); return r, nil, ok },
+		"BestRunning":    func() ([]int64, []int64, bool) { r, _, ok := impl.BestRunning(v); return r, nil, ok },
+		"FeedbackOf":     func() ([]int64, []int64, bool) { return impl.FeedbackOf(v, -1, 1) },
+		"SecondOf":       func() ([]int64, []int64, bool) { return impl.SecondOf(v, -1, 1) },
+		"BlockSums":      func() ([]int64, []int64, bool) { r, ok := impl.BlockSums(list, 2); return r, nil, ok },
+		"BlockSums of 1": func() ([]int64, []int64, bool) { r, ok := impl.BlockSums(list, 1); return r, nil, ok },
+	})
+}
+
+func TestFeedbackLeavesNothingRunning(t *testing.T) {
+	const calls = 1000
+	before := runtime.NumGoroutine()
+	for range calls {
+		impl.FeedbackOf(values(2, 1, 1, 1), 0, 1)
+		impl.SecondOf(values(1000, repeated(impl.MaxNum, 40)...), -1000, -1000)
+		impl.SecondOf(values(0, 1, 1, 1), 0, 1)
+	}
+	if behind := runtime.NumGoroutine(); behind > before+calls/2 {
+		t.Errorf("goroutines: %d before, %d behind", before, behind)
+	}
+}
+
+func TestRunningSumsOfNilAndEmptyListsAreTheSame(t *testing.T) {
+	for _, den := range extremes() {
+		results := func(nums, list []int64) string {
+			v := impl.Values{Den: den, Nums: nums}
+			return both(impl.RunningErrors(v, list)) + shown(impl.IsRunning(v, list)) + both(impl.PrefixFloors(v)) + both(impl.PrefixNearest(v)) +
+				both(impl.CountRunning(v)) + three(impl.BestRunning(v)) + three(impl.FeedbackOf(v, 0, 1)) + three(impl.SecondOf(v, 0, 1)) +
+				both(impl.GreatestOf(list)) + both(impl.BlockSums(list, den))
+		}
+		want := results(nil, nil)
+		expect(t, "nil and empty", results(nil, []int64{}), want)
+		expect(t, "empty and nil", results([]int64{}, nil), want)
+		expect(t, "empty and empty", results([]int64{}, []int64{}), want)
 	}
 }
