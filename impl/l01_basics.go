@@ -262,14 +262,19 @@ func readNumbers(s string) ([]int64, error) {
 	if strings.Count(s, listMark) >= MaxItems {
 		return nil, &fault{"more than MaxItems numbers"}
 	}
-	parts := strings.Split(s, listMark)
-	list := make([]int64, len(parts))
+	return readParts(s, listMark, readNumber)
+}
+
+// readParts returns what read returns for each of the parts of a text that a mark separates.
+func readParts[T any](s, mark string, read func(string) (T, error)) ([]T, error) {
+	parts := strings.Split(s, mark)
+	list := make([]T, len(parts))
 	for i, part := range parts {
-		n, err := readNumber(part)
+		x, err := read(part)
 		if err != nil {
 			return nil, &partFault{part, err}
 		}
-		list[i] = n
+		list[i] = x
 	}
 	return list, nil
 }
@@ -287,13 +292,9 @@ func ReadValues(s string) (Values, bool) { return outcome(readFractions(s)) }
 
 // readFractions returns the valid values whose ValuesText is s.
 func readFractions(s string) (Values, error) {
-	before, behind, found := strings.Cut(s, denMark)
-	if !found {
-		return Values{}, &fault{"no denominator"}
-	}
-	den, err := readNumber(before)
+	den, behind, err := readDen(s)
 	if err != nil {
-		return Values{}, &partFault{before, err}
+		return Values{}, err
 	}
 	nums, err := readNumbers(behind)
 	if err != nil {
@@ -304,6 +305,19 @@ func readFractions(s string) (Values, error) {
 		return Values{}, &fault{"values that are not valid"}
 	}
 	return v, nil
+}
+
+// readDen returns the denominator with which a text begins, and the text behind its mark.
+func readDen(s string) (int64, string, error) {
+	before, behind, found := strings.Cut(s, denMark)
+	if !found {
+		return 0, "", &fault{"no denominator"}
+	}
+	den, err := readNumber(before)
+	if err != nil {
+		return 0, "", &partFault{before, err}
+	}
+	return den, behind, nil
 }
 
 // CheckOf returns the check number of a text.
