@@ -20,7 +20,7 @@ const (
 // What separates the parts of texts, and what stands for a list without numbers.
 const (
 	listMark  = ","
-	denMark   = ":"
+	headMark  = ":"
 	emptyList = "-"
 )
 
@@ -284,7 +284,7 @@ func ValuesText(v Values) (string, bool) {
 	if !ValidValues(v) {
 		return "", false
 	}
-	return Decimal(v.Den) + denMark + joined(v.Nums), true
+	return Decimal(v.Den) + headMark + joined(v.Nums), true
 }
 
 // ReadValues returns the values with the given text.
@@ -292,7 +292,7 @@ func ReadValues(s string) (Values, bool) { return outcome(readFractions(s)) }
 
 // readFractions returns the valid values whose ValuesText is s.
 func readFractions(s string) (Values, error) {
-	den, behind, err := readDen(s)
+	den, behind, err := readHead(s)
 	if err != nil {
 		return Values{}, err
 	}
@@ -307,17 +307,17 @@ func readFractions(s string) (Values, error) {
 	return v, nil
 }
 
-// readDen returns the denominator with which a text begins, and the text behind its mark.
-func readDen(s string) (int64, string, error) {
-	before, behind, found := strings.Cut(s, denMark)
+// readHead returns the number with which a text begins, and the text behind its mark.
+func readHead(s string) (int64, string, error) {
+	before, behind, found := strings.Cut(s, headMark)
 	if !found {
-		return 0, "", &fault{"no denominator"}
+		return 0, "", &fault{"no number in front of a mark"}
 	}
-	den, err := readNumber(before)
+	head, err := readNumber(before)
 	if err != nil {
 		return 0, "", &partFault{before, err}
 	}
-	return den, behind, nil
+	return head, behind, nil
 }
 
 // CheckOf returns the check number of a text.
