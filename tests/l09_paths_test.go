@@ -248,6 +248,7 @@ func TestNumbersOnPathsForWhichTheDotIsJustOne(t *testing.T) {
 		dots, last, ok := impl.PathDither(picture(row(test.second, test.first)), left)
 		expect(t, "to the left "+shown(test), three([][]int64{{dots[0][1], dots[0][0]}}, last, ok), test.want)
 	}
+	expect(t, "one place", three(impl.PathDither(picture(row(100)), [][]int64{{0, 0}})), "[[0]] 100 true")
 	for tone := range int64(256) {
 		p := picture(row(tone))
 		expect(t, "one place "+shown(tone), three(impl.PathDither(p, [][]int64{{0, 0}})), three(impl.DiffuseDither(p, kernel(1), false)))
