@@ -250,6 +250,8 @@ func TestDiffusionOfSmallPictures(t *testing.T) {
 	expect(t, "four", three(impl.DiffuseDither(even, four, false)), "[[0 1] [0 0]] 145 true")
 	// The errors are 100, -112, 71 at the end of the second row, and -114 at its beginning.
 	expect(t, "four turning", three(impl.DiffuseDither(even, four, true)), "[[0 1] [1 0]] -110 true")
+	six, _ := impl.KernelOf(impl.KernelSix)
+	expect(t, "one place, from which no tap stays in the picture", three(impl.DiffuseDither(picture(row(100)), six, false)), "[[0]] 100 true")
 	expect(t, "one place", three(impl.DiffuseDither(picture(row(200)), four, true))+three(impl.DiffuseDither(picture(row(50)), four, false)), "[[1]] -55 true[[0]] 50 true")
 }
 
